@@ -57,7 +57,8 @@ func written(l []tlv.Frame) []byte {
 }
 
 // met returns the frames and their offsets that reading from the beginning
-// meets, and the error that it ends with; nil, if there is none.
+// meets in front of the first error, and that error; nil, if there is none. The
+// frame whose padding is wrong is not in front of it.
 func met(b []byte) (ats []int, l []tlv.Frame, err error) {
 	for at := 0; at < len(b); {
 		if len(b)-at < 4 {
@@ -67,20 +68,13 @@ func met(b []byte) (ats []int, l []tlv.Frame, err error) {
 		if size < 4 || size > len(b)-at {
 			return ats, l, api.Fault{Code: api.Length, At: at}
 		}
-		ats, l = append(ats, at), append(l, frame(256*uint16(b[at])+uint16(b[at+1]), b[at+4:at+size]...))
-		at += size
-		if at == len(b) {
-			break
-		}
-		end := at
-		for ; at%4 != 0; at++ {
-			if at == len(b) || b[at] != 0 {
-				return ats, l, api.Fault{Code: api.Padding, At: end}
-			}
-		}
-		if at == len(b) {
+		end := at + size
+		next := (end + 3) / 4 * 4
+		if end < len(b) && (next >= len(b) || !bytes.Equal(b[end:next], make([]byte, next-end))) {
 			return ats, l, api.Fault{Code: api.Padding, At: end}
 		}
+		ats, l = append(ats, at), append(l, frame(256*uint16(b[at])+uint16(b[at+1]), b[at+4:end]...))
+		at = next
 	}
 	return ats, l, nil
 }
@@ -370,10 +364,22 @@ func TestAll(t *testing.T) {
 		{exampleBytes[:11], []int{0}, example[:1]},
 		{append(bytes.Clone(exampleBytes), 0), []int{0, 8}, example},
 		{append(bytes.Clone(exampleBytes), 0, 1, 0, 3, 0, 1, 0, 4), []int{0, 8}, example},
-		// A frame comes before the error at its end.
-		{[]byte{0, 5, 0, 5, 9, 0, 0, 0}, []int{0}, example[:1]},
-		{[]byte{0, 5, 0, 5, 9, 0}, []int{0}, example[:1]},
-		{[]byte{0, 5, 0, 5, 9, 0, 0, 1, 0, 6, 0, 4}, []int{0}, example[:1]},
+		// Up to a wrong padding, whose frame is not yielded.
+		{[]byte{0, 5, 0, 5, 9, 0}, nil, nil},
+		{[]byte{0, 5, 0, 5, 9, 0, 0}, nil, nil},
+		{[]byte{0, 5, 0, 5, 9, 0, 0, 0}, nil, nil},
+		{[]byte{0, 5, 0, 5, 9, 1, 0, 0, 0, 6, 0, 4}, nil, nil},
+		{[]byte{0, 5, 0, 5, 9, 0, 1, 0, 0, 6, 0, 4}, nil, nil},
+		{[]byte{0, 5, 0, 5, 9, 0, 0, 1, 0, 6, 0, 4}, nil, nil},
+		{[]byte{0, 5, 0, 6, 9, 9, 0, 1, 0, 6, 0, 4}, nil, nil},
+		{[]byte{0, 5, 0, 7, 9, 9, 9, 1, 0, 6, 0, 4}, nil, nil},
+		{[]byte{0, 5, 0, 7, 9, 9, 9, 0}, nil, nil},
+		{[]byte{0, 5, 0, 4, 0, 6, 0, 5, 7, 0}, []int{0}, []tlv.Frame{frame(5)}},
+		{append(bytes.Clone(exampleBytes), 0, 7, 0, 6, 1, 2, 0, 0), []int{0, 8}, example},
+		{append(bytes.Clone(exampleBytes), 0, 7, 0, 6, 1, 2, 0, 3, 0, 8, 0, 4), []int{0, 8}, example},
+		// A frame whose padding is right comes before the error after that.
+		{[]byte{0, 5, 0, 5, 9, 0, 0, 0, 7}, []int{0}, example[:1]},
+		{[]byte{0, 5, 0, 5, 9, 0, 0, 0, 0, 6, 0, 3}, []int{0}, example[:1]},
 	} {
 		if ats, got := all(tlv.All(x.b)); !slices.Equal(ats, x.ats) || !same(got, x.want) {
 			t.Errorf("%d: %d, %v; want %d, %v", i, ats, got, x.ats, x.want)
